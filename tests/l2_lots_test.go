@@ -998,15 +998,25 @@ func lotLists(c impl.Case) [][]int {
 	return lists
 }
 
+// callsOf gives calls of the functions of a chapter with a Case and a list.
+type callsOf func(c impl.Case, list []int) []lotCall
+
+// checkZeroBesideFalse looks for results beside false that are no zero values, and for calls that
+// do not fail although they are to.
+func checkZeroBesideFalse(t *testing.T, calls []lotCall, allFail bool) {
+	t.Helper()
+	for _, call := range calls {
+		if call.ok && allFail || !call.ok && slices.ContainsFunc(call.results, func(x any) bool { return !isZero(x) }) {
+			t.Fatal("results beside false", call)
+		}
+	}
+}
+
 func TestP13AllFailWithoutACase(t *testing.T) {
 	bad := noCases()
 	for _, c := range bad {
 		for _, list := range lotLists(c) {
-			for _, call := range callsWith(c, list) {
-				if call.ok || slices.ContainsFunc(call.results, func(x any) bool { return !isZero(x) }) {
-					t.Fatal(call, c, list)
-				}
-			}
+			checkZeroBesideFalse(t, callsWith(c, list), true)
 		}
 	}
 	for _, c := range bad {
@@ -1022,11 +1032,7 @@ func TestP13AllFailWithoutACase(t *testing.T) {
 func TestP13WhereLotFunctionsFailAllResultsAreZero(t *testing.T) {
 	for _, c := range fullCases() {
 		for _, list := range lotLists(c) {
-			for _, call := range callsWith(c, list) {
-				if !call.ok && slices.ContainsFunc(call.results, func(x any) bool { return !isZero(x) }) {
-					t.Fatal("results beside false", call, c, list)
-				}
-			}
+			checkZeroBesideFalse(t, callsWith(c, list), false)
 		}
 	}
 }
@@ -1037,34 +1043,38 @@ func withRoom(list []int) ([]int, []int) {
 	return all[:len(list)], all
 }
 
-// Each result is written to and grown; the arguments, the memory behind them and the other results
-// are to stay what they were.
+// checkLeavesArguments writes to each result and grows it: the arguments, the memory behind them
+// and the other results are to stay what they were.
+func checkLeavesArguments(t *testing.T, calls callsOf, c impl.Case, list []int) {
+	t.Helper()
+	var given impl.Case
+	memory := make([][]int, 5)
+	given.Need, memory[0] = withRoom(c.Need)
+	given.Setup, memory[1] = withRoom(c.Setup)
+	given.Unit, memory[2] = withRoom(c.Unit)
+	given.Hold, memory[3] = withRoom(c.Hold)
+	plan, all := withRoom(list)
+	memory[4] = all
+	var before [][]int
+	for _, m := range memory {
+		before = append(before, slices.Clone(m))
+	}
+	got := calls(given, plan)
+	checkResultsAreApart(t, got)
+	if !slices.EqualFunc(memory, before, slices.Equal[[]int]) {
+		t.Fatal("changed", c, list, memory)
+	}
+	for i, call := range calls(c, list) {
+		if call.ok != got[i].ok {
+			t.Fatal("another answer", c, list, call, got[i])
+		}
+	}
+}
+
 func TestP13LotFunctionsLeaveTheirArguments(t *testing.T) {
-	cases := append(fullCases()[:400], noCases()...)
-	for _, c := range cases {
+	for _, c := range append(fullCases()[:400], noCases()...) {
 		for _, list := range lotLists(c) {
-			var given impl.Case
-			memory := make([][]int, 5)
-			given.Need, memory[0] = withRoom(c.Need)
-			given.Setup, memory[1] = withRoom(c.Setup)
-			given.Unit, memory[2] = withRoom(c.Unit)
-			given.Hold, memory[3] = withRoom(c.Hold)
-			plan, all := withRoom(list)
-			memory[4] = all
-			var before [][]int
-			for _, m := range memory {
-				before = append(before, slices.Clone(m))
-			}
-			calls := callsWith(given, plan)
-			checkResultsAreApart(t, calls)
-			if !slices.EqualFunc(memory, before, slices.Equal[[]int]) {
-				t.Fatal("changed", c, list, memory)
-			}
-			for i, call := range callsWith(c, list) {
-				if call.ok != calls[i].ok {
-					t.Fatal("another answer", c, list, call, calls[i])
-				}
-			}
+			checkLeavesArguments(t, callsWith, c, list)
 		}
 	}
 }
@@ -1092,14 +1102,20 @@ func checkResultsAreApart(t *testing.T, calls []lotCall) {
 	}
 }
 
+// checkSameAgain writes to the results of the same calls in between.
+func checkSameAgain(t *testing.T, calls callsOf, c impl.Case, list []int) {
+	t.Helper()
+	first := fmt.Sprint(calls(c, list))
+	checkResultsAreApart(t, calls(c, list))
+	if second := fmt.Sprint(calls(c, list)); first != second {
+		t.Fatal("another result", first, second)
+	}
+}
+
 func TestP13LotFunctionsReturnTheSameAgain(t *testing.T) {
 	for _, c := range append(fullCases()[:300], noCases()...) {
 		for _, list := range lotLists(c) {
-			first := fmt.Sprint(callsWith(c, list))
-			checkResultsAreApart(t, callsWith(c, list))
-			if second := fmt.Sprint(callsWith(c, list)); first != second {
-				t.Fatal("another result", first, second)
-			}
+			checkSameAgain(t, callsWith, c, list)
 		}
 	}
 }
