@@ -971,6 +971,10 @@ func isZero(x any) bool {
 	switch v := x.(type) {
 	case []int:
 		return len(v) == 0
+	case [][]int:
+		return len(v) == 0
+	case [][2]int:
+		return len(v) == 0
 	case impl.Case:
 		return sameCase(v, impl.Case{})
 	}
@@ -982,6 +986,14 @@ func listsIn(x any) [][]int {
 	switch v := x.(type) {
 	case []int:
 		return [][]int{v}
+	case [][]int:
+		return v
+	case [][2]int:
+		var lists [][]int
+		for i := range v {
+			lists = append(lists, v[i][:])
+		}
+		return lists
 	case impl.Case:
 		return rowsOf(v)
 	}
