@@ -975,6 +975,8 @@ func isZero(x any) bool {
 		return len(v) == 0
 	case [][2]int:
 		return len(v) == 0
+	case [2]int:
+		return v == [2]int{}
 	case impl.Case:
 		return sameCase(v, impl.Case{})
 	}
@@ -1021,6 +1023,29 @@ func checkZeroBesideFalse(t *testing.T, calls []lotCall, allFail bool) {
 		if call.ok && allFail || !call.ok && slices.ContainsFunc(call.results, func(x any) bool { return !isZero(x) }) {
 			t.Fatal("results beside false", call)
 		}
+	}
+}
+
+// checkEachFailsAndDoesNot looks for results beside false that are no zero values, and for functions
+// of which too few calls fail, or do not: one of them never fails.
+func checkEachFailsAndDoesNot(t *testing.T, calls []lotCall, functions int, never string) {
+	t.Helper()
+	checkZeroBesideFalse(t, calls, false)
+	failing, fine := map[string]int{}, map[string]int{}
+	for _, call := range calls {
+		if call.ok {
+			fine[call.name]++
+		} else {
+			failing[call.name]++
+		}
+	}
+	for name := range fine {
+		if fine[name] < 100 || failing[name] < 100 && name != never {
+			t.Error("too few calls that fail, or do not", name, failing[name], fine[name])
+		}
+	}
+	if len(fine) != functions {
+		t.Error("not all functions", fine)
 	}
 }
 

@@ -1292,26 +1292,11 @@ func TestP13ChainFunctionsFailWithoutAChain(t *testing.T) {
 }
 
 func TestP13WhereChainFunctionsFailAllResultsAreZero(t *testing.T) {
-	failing, fine := map[string]int{}, map[string]int{}
+	var calls []lotCall
 	for _, x := range manyChainArgs() {
-		calls := chainCalls(x)
-		checkZeroBesideFalse(t, calls, false)
-		for _, call := range calls {
-			if call.ok {
-				fine[call.name]++
-			} else {
-				failing[call.name]++
-			}
-		}
+		calls = append(calls, chainCalls(x)...)
 	}
-	for name := range fine {
-		if fine[name] < 100 || failing[name] < 100 && name != "IsChain" {
-			t.Error("too few calls that fail, or do not", name, failing[name], fine[name])
-		}
-	}
-	if len(fine) != 14 {
-		t.Error("not all functions", fine)
-	}
+	checkEachFailsAndDoesNot(t, calls, 14, "IsChain")
 }
 
 // roomyChain gives the same arguments in memory that goes on behind them, and all this memory.
