@@ -979,6 +979,10 @@ func isZero(x any) bool {
 		return v == [2]int{}
 	case []impl.Contract:
 		return len(v) == 0
+	case []impl.Parcel:
+		return len(v) == 0
+	case impl.Flow:
+		return sameFlow(v, impl.Flow{})
 	case impl.Case:
 		return sameCase(v, impl.Case{})
 	}
@@ -998,6 +1002,8 @@ func listsIn(x any) [][]int {
 			lists = append(lists, v[i][:])
 		}
 		return lists
+	case impl.Flow:
+		return [][]int{v.Under}
 	case impl.Case:
 		return rowsOf(v)
 	}
