@@ -983,6 +983,16 @@ func isZero(x any) bool {
 		return len(v) == 0
 	case impl.Flow:
 		return sameFlow(v, impl.Flow{})
+	case impl.Ledger:
+		return sameLedger(v, impl.Ledger{})
+	case impl.Console:
+		return sameConsole(v, impl.Console{})
+	case impl.Log:
+		return v == impl.Log{}
+	case []impl.LogRecord:
+		return len(v) == 0
+	case []string:
+		return len(v) == 0
 	case impl.Case:
 		return sameCase(v, impl.Case{})
 	}
@@ -1004,6 +1014,10 @@ func listsIn(x any) [][]int {
 		return lists
 	case impl.Flow:
 		return [][]int{v.Under}
+	case impl.Ledger:
+		return append(rowsOf(v.Case), v.Plan)
+	case impl.Console:
+		return listsIn(v.Run)
 	case impl.Case:
 		return rowsOf(v)
 	}
