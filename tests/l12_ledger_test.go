@@ -176,8 +176,8 @@ func manyLedgers() []impl.Ledger {
 	return found
 }
 
-// smallLedgers gives all Ledgers of at most two periods, and of three with fewer amounts, with Needs up
-// to 2: each of them with other costs.
+// smallLedgers gives the Ledgers of at most three periods with all Needs up to 2, a few amounts in each
+// period, and each Now: each of them with other costs, which are thrown.
 func smallLedgers() []impl.Ledger {
 	var found []impl.Ledger
 	var d dice = 907
